@@ -1,0 +1,121 @@
+"""Nets of places, and what is seen on them by a word, with a pebble."""
+
+NOT_A_NET = -22
+NO_PLACE = -2
+WORD_TOO_LONG = -22
+NOT_REFUSED = 0
+
+MOST_PLACES = 7
+MOST_LINKS = 10
+MOST_LETTERS = 30
+
+PUT_DOWN = 1
+TAKE_UP = 2
+FIRST_EXIT = 3
+
+# Where the pebble is: this, or one more than the place where it lies.
+CARRIED = 0
+
+# What is seen between two places: this, or one more than the exit by which one came in.
+DID_NOT_GO = 0
+
+
+def seen(n, u, net, word):
+    """How many numbers are seen by word, from u on, with a pebble; then these. Or a refusal alone."""
+    refused = refusal(n, u, net, word)
+    if refused != NOT_REFUSED:
+        return [refused]
+    exits = exits_of_places(n, links_of(net))
+    place = u
+    pebble = CARRIED
+    told = seen_at(exits, place, pebble)
+    for letter in word:
+        step = step_by(exits, place, pebble, letter)
+        place = step[0]
+        pebble = step[1]
+        told.append(step[2])
+        told.extend(seen_at(exits, place, pebble))
+    return [len(told)] + told
+
+
+def refusal(n, u, net, word):
+    """The refusal that is due and told first, or NOT_REFUSED."""
+    if not is_net(n, net):
+        return NOT_A_NET
+    if u >= n:
+        return NO_PLACE
+    if len(word) > MOST_LETTERS:
+        return WORD_TOO_LONG
+    return NOT_REFUSED
+
+
+def is_net(n, net):
+    """Whether n places with the links told by net are a net."""
+    # n is asked ahead of all else: it may be too great to make a list of that length.
+    if n < 1 or n > MOST_PLACES:
+        return False
+    if len(net) % 2 != 0 or len(net) > 2 * MOST_LINKS:
+        return False
+    links = links_of(net)
+    return links_are_allowed(n, links) and hang_together(n, links)
+
+
+def links_of(net):
+    """The links as pairs of places, in the order in which they are told."""
+    return [(net[k], net[k + 1]) for k in range(0, len(net), 2)]
+
+
+def links_are_allowed(n, links):
+    """Whether each link is between two different places that are there, and no two between the same."""
+    met = []
+    for one, other in links:
+        if one >= n or other >= n or one == other:
+            return False
+        if (one, other) in met or (other, one) in met:
+            return False
+        met.append((one, other))
+    return True
+
+
+def hang_together(n, links):
+    """Whether every place can be reached from place 0 by links."""
+    reached = [place == 0 for place in range(n)]
+    # A round that reaches no further place is followed by none that does, so n rounds are enough.
+    for turn in range(n):
+        for one, other in links:
+            if reached[one] or reached[other]:
+                reached[one] = True
+                reached[other] = True
+    return all(reached)
+
+
+def exits_of_places(n, links):
+    """Of each place its exits in order: the place that each leads to, and the exit there by which one comes in."""
+    exits = [[] for place in range(n)]
+    for one, other in links:
+        exit_of_one = len(exits[one])
+        exit_of_other = len(exits[other])
+        exits[one].append((other, exit_of_other))
+        exits[other].append((one, exit_of_one))
+    return exits
+
+
+def seen_at(exits, place, pebble):
+    """What is seen at a place: how many exits it has, and how it is with the pebble."""
+    if pebble == CARRIED:
+        return [len(exits[place]), 2]
+    if pebble == place + 1:
+        return [len(exits[place]), 1]
+    return [len(exits[place]), 0]
+
+
+def step_by(exits, place, pebble, letter):
+    """Behind one letter: the place, where the pebble is, and what is seen between."""
+    if letter == PUT_DOWN and pebble == CARRIED:
+        return (place, place + 1, DID_NOT_GO)
+    if letter == TAKE_UP and pebble == place + 1:
+        return (place, CARRIED, DID_NOT_GO)
+    if letter >= FIRST_EXIT and letter - FIRST_EXIT < len(exits[place]):
+        way = exits[place][letter - FIRST_EXIT]
+        return (way[0], pebble, way[1] + 1)
+    return (place, pebble, DID_NOT_GO)
