@@ -1,77 +1,13 @@
 """Tests of withpebble.nets.seen: points 1 and 2 of the document, as far as they speak of it."""
 
-import contextlib
-import inspect
-import io
 import itertools
 import unittest
 
-from withpebble import nets
+from tests.helpers import (
+    GREATEST, PATH_OF_THREE, RING_OF_SIX, RING_OF_SIX_ALL_ALIKE, RING_OF_THREE, STAR, TEN_LINKS, HoldsForEachCall,
+    RefusesAWalk, lists_of_links, places_met, seen_by_the_words,
+)
 from withpebble.nets import seen
-
-GREATEST = 4294967295
-
-RING_OF_THREE = [0, 1, 1, 2, 2, 0]
-# Told so that it looks like the ring of three, from each place, as long as no pebble is put down.
-RING_OF_SIX = [0, 1, 3, 4, 1, 2, 4, 5, 2, 3, 5, 0]
-# Told so that all places are alike: exit 0 leads to an exit 0, exit 1 to an exit 1.
-RING_OF_SIX_ALL_ALIKE = [0, 1, 2, 3, 4, 5, 1, 2, 3, 4, 5, 0]
-PATH_OF_THREE = [0, 1, 1, 2]
-STAR = [0, 1, 0, 2, 3, 0]
-TEN_LINKS = [0, 1, 1, 2, 2, 3, 3, 4, 4, 5, 5, 6, 6, 0, 0, 2, 0, 3, 0, 4]
-
-
-class FrozenList(list):
-    """A list that tells if somebody tries to change it, be it for a while."""
-
-    def refuse(self, *args, **kwargs):
-        raise AssertionError("what is handed in was changed")
-
-    __setitem__ = __delitem__ = __iadd__ = __imul__ = refuse
-    append = extend = insert = pop = remove = clear = sort = reverse = refuse
-
-
-def places_met(net):
-    """The places that hang together with place 0, found by a walk of their own."""
-    met = {0}
-    waiting = [0]
-    pairs = [(net[k], net[k + 1]) for k in range(0, len(net), 2)]
-    while waiting:
-        here = waiting.pop()
-        for pair in pairs:
-            if here in pair:
-                there = pair[0] + pair[1] - here
-                if there not in met:
-                    met.add(there)
-                    waiting.append(there)
-    return met
-
-
-def seen_by_the_words(u, net, word):
-    """What the document tells, looked up afresh in net at each step."""
-    pairs = list(zip(net[::2], net[1::2]))
-
-    def links_at(place):
-        return [k for k, pair in enumerate(pairs) if place in pair]
-
-    def look():
-        return [len(links_at(here)), 2 if lies is None else int(lies == here)]
-
-    here = u
-    lies = None
-    answer = look()
-    for letter in word:
-        came = 0
-        if letter == 1 and lies is None:
-            lies = here
-        elif letter == 2 and lies == here:
-            lies = None
-        elif 3 <= letter < 3 + len(links_at(here)):
-            link = links_at(here)[letter - 3]
-            here = sum(pairs[link]) - here
-            came = links_at(here).index(link) + 1
-        answer += [came] + look()
-    return [len(answer)] + answer
 
 
 class OrdinaryWords(unittest.TestCase):
@@ -155,11 +91,6 @@ class LengthOfWord(unittest.TestCase):
             seen(3, 0, RING_OF_THREE, word), seen_by_the_words(0, RING_OF_THREE, word)
         )
 
-    def test_more_than_thirty_letters(self):
-        for length in (31, 32):
-            self.assertEqual(seen(3, 0, RING_OF_THREE, [0] * length), [-22])
-            self.assertEqual(seen(1, 0, [], [3] * length), [-22])
-
 
 class OnePlace(unittest.TestCase):
     def test_an_empty_word(self):
@@ -226,61 +157,12 @@ class AsStaying(unittest.TestCase):
         self.assertEqual(seen(1, 0, [], [GREATEST]), [5, 0, 2, 0, 0, 2])
 
 
-class NotANet(unittest.TestCase):
-    def refused(self, n, net):
-        self.assertEqual(seen(n, 0, net, [3]), [-22], (n, net))
-
-    def test_the_number_of_places(self):
-        self.refused(0, [])
-        self.refused(8, [0, 1, 1, 2, 2, 3, 3, 4, 4, 5, 5, 6, 6, 7])
-        self.refused(8, [])
-        self.refused(GREATEST, [])
-        self.refused(GREATEST, RING_OF_THREE)
-
-    def test_an_odd_count_of_numbers(self):
-        self.refused(1, [0])
-        self.refused(2, [0, 1, 1])
-        self.refused(3, [0, 1, 1, 2, 2])
-        self.refused(7, TEN_LINKS + [0])
-
-    def test_a_place_that_is_not_there(self):
-        self.refused(2, [0, 2])
-        self.refused(2, [2, 0])
-        self.refused(2, [0, 1, 1, 2])
-        self.refused(2, [0, 1, 2, 1])
-        self.refused(2, [0, 1, 2, 3])
-        self.refused(1, [0, 1])
-        self.refused(3, [0, 1, 1, 2, 2, GREATEST])
-        self.refused(3, [0, 1, 1, 2, GREATEST, 2])
-
-    def test_a_link_from_a_place_to_itself(self):
-        self.refused(1, [0, 0])
-        self.refused(2, [0, 1, 1, 1])
-        self.refused(3, [2, 2, 0, 1, 1, 2])
-
-    def test_two_links_between_the_same_two_places(self):
-        self.refused(2, [0, 1, 0, 1])
-        self.refused(2, [0, 1, 1, 0])
-        self.refused(3, [0, 1, 1, 2, 0, 1])
-        self.refused(3, [0, 1, 1, 2, 1, 0])
-        self.refused(3, [2, 1, 0, 1, 1, 2])
-
-    def test_more_than_ten_links(self):
-        self.refused(7, TEN_LINKS + [0, 5])
-        self.refused(7, TEN_LINKS + [0, 5, 1, 3])
+class Refusals(RefusesAWalk, unittest.TestCase):
+    call = seen
 
     def test_ten_links_are_not_refused(self):
         self.assertEqual(seen(7, 0, TEN_LINKS, []), [2, 5, 2])
         self.assertEqual(seen(5, 0, [0, 1, 0, 2, 0, 3, 0, 4, 1, 2, 1, 3, 1, 4, 2, 3, 2, 4, 3, 4], []), [2, 4, 2])
-
-    def test_places_that_do_not_hang_together(self):
-        self.refused(2, [])
-        self.refused(7, [])
-        self.refused(3, [0, 1])
-        self.refused(3, [1, 2])
-        self.refused(4, [0, 1, 2, 3])
-        self.refused(6, [0, 1, 1, 2, 2, 0, 3, 4, 4, 5, 5, 3])
-        self.refused(7, RING_OF_SIX)
 
     def test_a_long_path_hangs_together_in_whatever_order(self):
         forth = [0, 1, 1, 2, 2, 3, 3, 4, 4, 5, 5, 6]
@@ -288,48 +170,16 @@ class NotANet(unittest.TestCase):
         self.assertEqual(seen(7, 0, [5, 6, 4, 5, 3, 4, 2, 3, 1, 2, 0, 1], []), [2, 1, 2])
         self.assertEqual(seen(7, 3, [6, 5, 5, 4, 4, 3, 3, 2, 2, 1, 1, 0], []), [2, 2, 2])
 
-
-class NoPlace(unittest.TestCase):
-    def test_one_too_great(self):
-        self.assertEqual(seen(3, 3, RING_OF_THREE, [3]), [-2])
-        self.assertEqual(seen(1, 1, [], []), [-2])
-        self.assertEqual(seen(7, 7, TEN_LINKS, []), [-2])
-
-    def test_the_greatest(self):
-        self.assertEqual(seen(3, GREATEST, RING_OF_THREE, [3]), [-2])
-
     def test_the_last_place_is_there(self):
         self.assertEqual(seen(7, 6, TEN_LINKS, []), [2, 2, 2])
-
-
-class TheRefusalToldFirst(unittest.TestCase):
-    def test_not_a_net_and_no_place(self):
-        self.assertEqual(seen(0, 0, [], []), [-22])
-        self.assertEqual(seen(3, 3, [0, 1], []), [-22])
-        self.assertEqual(seen(2, GREATEST, [0, 1, 1], []), [-22])
-
-    def test_no_place_and_a_word_too_long(self):
-        self.assertEqual(seen(3, 3, RING_OF_THREE, [0] * 31), [-2])
-        self.assertEqual(seen(1, GREATEST, [], [0] * 32), [-2])
-
-    def test_not_a_net_and_a_word_too_long(self):
-        self.assertEqual(seen(2, 0, [0, 0], [0] * 31), [-22])
-        self.assertEqual(seen(8, 0, [], [0] * 32), [-22])
-
-    def test_all_of_them(self):
-        self.assertEqual(seen(2, 2, [], [0] * 31), [-22])
 
 
 class AgainstTheWords(unittest.TestCase):
     def test_every_net_of_up_to_four_places(self):
         word = [4, 1, 5, 3, 2, 4, 1, 3, 3, 2, 1, 4, 4, 5, 6, 2, 3]
         for n in range(1, 5):
-            pairs = list(itertools.combinations(range(n), 2))
-            for count in range(len(pairs) + 1):
-                for chosen in itertools.combinations(pairs, count):
-                    for turn in range(max(count, 1)):
-                        net = [place for pair in chosen[turn:] + chosen[:turn] for place in pair]
-                        self.compare(n, net, word)
+            for net in lists_of_links(n):
+                self.compare(n, net, word)
 
     def compare(self, n, net, word):
         whole = len(places_met(net)) == n
@@ -346,50 +196,13 @@ class AgainstTheWords(unittest.TestCase):
                     )
 
 
-class TheInterface(unittest.TestCase):
-    def test_names_of_the_arguments(self):
-        self.assertEqual(list(inspect.signature(nets.seen).parameters), ["n", "u", "net", "word"])
-        self.assertEqual(nets.seen(n=2, u=1, net=[0, 1], word=[3]), [5, 1, 2, 1, 1, 2])
-
-    def test_a_list_of_whole_numbers(self):
-        for answer in (
-            seen(3, 0, RING_OF_THREE, [1, 3, 4, 4, 2]), seen(1, 0, [], []), seen(0, 0, [], []),
-            seen(1, 1, [], []), seen(1, 0, [], [0] * 31),
-        ):
-            self.assertIs(type(answer), list)
-            self.assertEqual({type(number) for number in answer}, {int})
-
-    def test_what_is_handed_in_is_not_changed(self):
-        for n, u, net, word in (
-            (3, 0, RING_OF_THREE, [1, 3, 4, 4, 2]), (3, 3, RING_OF_THREE, [1]),
-            (3, 0, [0, 1, 1], [1]), (3, 0, RING_OF_THREE, [0] * 31), (4, 0, [0, 1, 2, 3], [3]),
-        ):
-            frozen_net = FrozenList(net)
-            frozen_word = FrozenList(word)
-            seen(n, u, frozen_net, frozen_word)
-            self.assertEqual(list(frozen_net), net)
-            self.assertEqual(list(frozen_word), word)
-
-    def test_nothing_is_kept(self):
-        net = list(RING_OF_THREE)
-        word = [1, 3, 4, 4, 2]
-        first = seen(3, 0, net, word)
-        kept = list(first)
-        self.assertEqual(seen(3, 0, net, word), kept)
-        seen(6, 2, RING_OF_SIX, [1, 3])
-        seen(0, 0, [], [])
-        first.append(7)
-        first[0] = 9
-        self.assertEqual(seen(3, 0, net, word), kept)
-        self.assertEqual(net, RING_OF_THREE)
-        self.assertEqual(word, [1, 3, 4, 4, 2])
-
-    def test_it_prints_nothing(self):
-        out = io.StringIO()
-        with contextlib.redirect_stdout(out), contextlib.redirect_stderr(out):
-            seen(3, 0, RING_OF_THREE, [1, 3, 4, 4, 2])
-            seen(0, 0, [], [])
-        self.assertEqual(out.getvalue(), "")
+class TheInterface(HoldsForEachCall, unittest.TestCase):
+    call = seen
+    arguments = ["n", "u", "net", "word"]
+    values = [
+        (3, 0, RING_OF_THREE, [1, 3, 4, 4, 2]), (6, 2, RING_OF_SIX, [1, 3]), (1, 0, [], []), (0, 0, [], []),
+        (3, 3, RING_OF_THREE, [1]), (3, 0, [0, 1, 1], [1]), (3, 0, RING_OF_THREE, [0] * 31), (4, 0, [0, 1, 2, 3], [3]),
+    ]
 
 
 if __name__ == "__main__":

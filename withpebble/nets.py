@@ -1,4 +1,4 @@
-"""Nets of places, and what is seen on them by a word, with a pebble."""
+"""Nets of places, what is seen on them by a word, with a pebble, and where one is behind it."""
 
 NOT_A_NET = -22
 NO_PLACE = -2
@@ -26,16 +26,20 @@ def seen(n, u, net, word):
     if refused != NOT_REFUSED:
         return [refused]
     exits = exits_of_places(n, links_of(net))
-    place = u
-    pebble = CARRIED
-    told = seen_at(exits, place, pebble)
-    for letter in word:
-        step = step_by(exits, place, pebble, letter)
-        place = step[0]
-        pebble = step[1]
-        told.append(step[2])
+    told = seen_at(exits, u, CARRIED)
+    for place, pebble, came_in in steps_by(exits, u, word)[1:]:
+        told.append(came_in)
         told.extend(seen_at(exits, place, pebble))
     return [len(told)] + told
+
+
+def run(n, u, net, word):
+    """The place where one is behind word, from u on; then where the pebble is. Or a refusal alone."""
+    refused = refusal(n, u, net, word)
+    if refused != NOT_REFUSED:
+        return [refused]
+    last = steps_by(exits_of_places(n, links_of(net)), u, word)[-1]
+    return [last[0], last[1]]
 
 
 def refusal(n, u, net, word):
@@ -107,6 +111,15 @@ def seen_at(exits, place, pebble):
     if pebble == place + 1:
         return [len(exits[place]), 1]
     return [len(exits[place]), 0]
+
+
+def steps_by(exits, u, word):
+    """At first at u, then behind each letter: the place, where the pebble is, and what is seen between."""
+    steps = [(u, CARRIED, DID_NOT_GO)]
+    for letter in word:
+        last = steps[-1]
+        steps.append(step_by(exits, last[0], last[1], letter))
+    return steps
 
 
 def step_by(exits, place, pebble, letter):

@@ -1,0 +1,239 @@
+"""What the tests share: nets, wrong nets, the document's words followed afresh, and what holds for each call."""
+
+import contextlib
+import inspect
+import io
+import itertools
+
+GREATEST = 4294967295
+
+RING_OF_THREE = [0, 1, 1, 2, 2, 0]
+# Told so that it looks like the ring of three, from each place, as long as no pebble is put down.
+RING_OF_SIX = [0, 1, 3, 4, 1, 2, 4, 5, 2, 3, 5, 0]
+# Told so that all places are alike: exit 0 leads to an exit 0, exit 1 to an exit 1.
+RING_OF_SIX_ALL_ALIKE = [0, 1, 2, 3, 4, 5, 1, 2, 3, 4, 5, 0]
+PATH_OF_THREE = [0, 1, 1, 2]
+STAR = [0, 1, 0, 2, 3, 0]
+TEN_LINKS = [0, 1, 1, 2, 2, 3, 3, 4, 4, 5, 5, 6, 6, 0, 0, 2, 0, 3, 0, 4]
+
+NOT_NETS = {
+    "the number of places": [
+        (0, []),
+        (8, [0, 1, 1, 2, 2, 3, 3, 4, 4, 5, 5, 6, 6, 7]),
+        (8, []),
+        (GREATEST, []),
+        (GREATEST, RING_OF_THREE),
+    ],
+    "an odd count of numbers": [
+        (1, [0]),
+        (2, [0, 1, 1]),
+        (3, [0, 1, 1, 2, 2]),
+        (7, TEN_LINKS + [0]),
+    ],
+    "a place that is not there": [
+        (2, [0, 2]),
+        (2, [2, 0]),
+        (2, [0, 1, 1, 2]),
+        (2, [0, 1, 2, 1]),
+        (2, [0, 1, 2, 3]),
+        (1, [0, 1]),
+        (3, [0, 1, 1, 2, 2, GREATEST]),
+        (3, [0, 1, 1, 2, GREATEST, 2]),
+    ],
+    "a link from a place to itself": [
+        (1, [0, 0]),
+        (2, [0, 1, 1, 1]),
+        (3, [2, 2, 0, 1, 1, 2]),
+    ],
+    "two links between the same two places": [
+        (2, [0, 1, 0, 1]),
+        (2, [0, 1, 1, 0]),
+        (3, [0, 1, 1, 2, 0, 1]),
+        (3, [0, 1, 1, 2, 1, 0]),
+        (3, [2, 1, 0, 1, 1, 2]),
+    ],
+    "more than ten links": [
+        (7, TEN_LINKS + [0, 5]),
+        (7, TEN_LINKS + [0, 5, 1, 3]),
+    ],
+    "places that do not hang together": [
+        (2, []),
+        (7, []),
+        (3, [0, 1]),
+        (3, [1, 2]),
+        (4, [0, 1, 2, 3]),
+        (6, [0, 1, 1, 2, 2, 0, 3, 4, 4, 5, 5, 3]),
+        (7, RING_OF_SIX),
+    ],
+}
+
+
+def not_nets():
+    """Each wrong net with what is wrong with it."""
+    return [(why, n, net) for why, cases in NOT_NETS.items() for n, net in cases]
+
+
+class FrozenList(list):
+    """A list that tells if somebody tries to change it, be it for a while."""
+
+    def refuse(self, *args, **kwargs):
+        raise AssertionError("what is handed in was changed")
+
+    __setitem__ = __delitem__ = __iadd__ = __imul__ = refuse
+    append = extend = insert = pop = remove = clear = sort = reverse = refuse
+
+
+def frozen(values):
+    """The same values, each list a FrozenList; one and the same list stays one and the same."""
+    lists = {id(value): FrozenList(value) for value in values if isinstance(value, list)}
+    return [lists.get(id(value), value) for value in values]
+
+
+def places_met(net):
+    """The places that hang together with place 0, found by a walk of their own."""
+    met = {0}
+    waiting = [0]
+    pairs = [(net[k], net[k + 1]) for k in range(0, len(net), 2)]
+    while waiting:
+        here = waiting.pop()
+        for pair in pairs:
+            if here in pair:
+                there = pair[0] + pair[1] - here
+                if there not in met:
+                    met.add(there)
+                    waiting.append(there)
+    return met
+
+
+def lists_of_links(n):
+    """Every choice of links between n places, each told in several orders; not all of them hang together."""
+    pairs = list(itertools.combinations(range(n), 2))
+    for count in range(len(pairs) + 1):
+        for chosen in itertools.combinations(pairs, count):
+            for turn in range(max(count, 1)):
+                yield [place for pair in chosen[turn:] + chosen[:turn] for place in pair]
+
+
+def walk_by_the_words(u, net, word):
+    """What the document tells, looked up afresh in net at each step: what is seen, the place, where the pebble lies."""
+    pairs = list(zip(net[::2], net[1::2]))
+
+    def links_at(place):
+        return [k for k, pair in enumerate(pairs) if place in pair]
+
+    def look():
+        return [len(links_at(here)), 2 if lies is None else int(lies == here)]
+
+    here = u
+    lies = None
+    answer = look()
+    for letter in word:
+        came = 0
+        if letter == 1 and lies is None:
+            lies = here
+        elif letter == 2 and lies == here:
+            lies = None
+        elif 3 <= letter < 3 + len(links_at(here)):
+            link = links_at(here)[letter - 3]
+            here = sum(pairs[link]) - here
+            came = links_at(here).index(link) + 1
+        answer += [came] + look()
+    return answer, here, lies
+
+
+def seen_by_the_words(u, net, word):
+    answer = walk_by_the_words(u, net, word)[0]
+    return [len(answer)] + answer
+
+
+def run_by_the_words(u, net, word):
+    here, lies = walk_by_the_words(u, net, word)[1:]
+    return [here, 0 if lies is None else lies + 1]
+
+
+class RefusesAWalk:
+    """The refusals of a call with a word; a TestCase beside it names the call."""
+
+    call = None
+
+    def refused(self, number, n, u, net, word):
+        self.assertEqual(type(self).call(n, u, net, word), [number], (n, u, net, word))
+
+    def test_what_is_not_a_net(self):
+        for why, n, net in not_nets():
+            with self.subTest(why, n=n, net=net):
+                self.refused(-22, n, 0, net, [3])
+
+    def test_no_place(self):
+        self.refused(-2, 3, 3, RING_OF_THREE, [3])
+        self.refused(-2, 1, 1, [], [])
+        self.refused(-2, 7, 7, TEN_LINKS, [])
+        self.refused(-2, 3, GREATEST, RING_OF_THREE, [3])
+
+    def test_more_than_thirty_letters(self):
+        for length in (31, 32):
+            self.refused(-22, 3, 0, RING_OF_THREE, [0] * length)
+            self.refused(-22, 1, 0, [], [3] * length)
+
+    def test_not_a_net_and_no_place(self):
+        self.refused(-22, 0, 0, [], [])
+        self.refused(-22, 3, 3, [0, 1], [])
+        self.refused(-22, 2, GREATEST, [0, 1, 1], [])
+
+    def test_no_place_and_a_word_too_long(self):
+        self.refused(-2, 3, 3, RING_OF_THREE, [0] * 31)
+        self.refused(-2, 1, GREATEST, [], [0] * 32)
+
+    def test_not_a_net_and_a_word_too_long(self):
+        self.refused(-22, 2, 0, [0, 0], [0] * 31)
+        self.refused(-22, 8, 0, [], [0] * 32)
+
+    def test_all_of_them(self):
+        self.refused(-22, 2, 2, [], [0] * 31)
+
+
+class HoldsForEachCall:
+    """What the interface says of each call; a TestCase beside it names the call, its arguments, and some values."""
+
+    call = None
+    arguments = []
+    values = []
+
+    def answer(self, values):
+        return type(self).call(*values)
+
+    def test_names_of_the_arguments(self):
+        self.assertEqual(list(inspect.signature(type(self).call).parameters), self.arguments)
+        for values in self.values:
+            by_name = dict(zip(self.arguments, values))
+            self.assertEqual(type(self).call(**by_name), self.answer(values))
+
+    def test_a_list_of_whole_numbers(self):
+        for values in self.values:
+            answer = self.answer(values)
+            self.assertIs(type(answer), list)
+            self.assertEqual({type(number) for number in answer}, {int}, values)
+            self.assertTrue(len(answer) == 1 or min(answer) >= 0, values)
+
+    def test_what_is_handed_in_is_not_changed(self):
+        for values in self.values:
+            handed = frozen(values)
+            self.assertEqual(self.answer(handed), self.answer(values))
+            self.assertEqual([list(v) if isinstance(v, list) else v for v in handed], list(values))
+
+    def test_nothing_is_kept(self):
+        answers = [list(self.answer(values)) for values in self.values]
+        for turn in range(2):
+            for values, expected in reversed(list(zip(self.values, answers))):
+                answer = self.answer(values)
+                self.assertEqual(answer, expected)
+                # What was given back is the caller's own: a change of it is not met again.
+                answer.append(7)
+                answer[0] = 9
+
+    def test_it_prints_nothing(self):
+        out = io.StringIO()
+        with contextlib.redirect_stdout(out), contextlib.redirect_stderr(out):
+            for values in self.values:
+                self.answer(values)
+        self.assertEqual(out.getvalue(), "")
