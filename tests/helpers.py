@@ -13,6 +13,11 @@ RING_OF_SIX = [0, 1, 3, 4, 1, 2, 4, 5, 2, 3, 5, 0]
 # Told so that all places are alike: exit 0 leads to an exit 0, exit 1 to an exit 1.
 RING_OF_SIX_ALL_ALIKE = [0, 1, 2, 3, 4, 5, 1, 2, 3, 4, 5, 0]
 PATH_OF_THREE = [0, 1, 1, 2]
+RING_OF_FOUR = [0, 1, 1, 2, 2, 3, 3, 0]
+RING_OF_FOUR_ALL_ALIKE = [0, 1, 2, 3, 1, 2, 3, 0]
+RING_OF_FIVE = [0, 1, 1, 2, 2, 3, 3, 4, 4, 0]
+PATH_OF_FIVE = [0, 1, 1, 2, 2, 3, 3, 4]
+FIVE_ALL_LINKED = [0, 1, 0, 2, 0, 3, 0, 4, 1, 2, 1, 3, 1, 4, 2, 3, 2, 4, 3, 4]
 STAR = [0, 1, 0, 2, 3, 0]
 TEN_LINKS = [0, 1, 1, 2, 2, 3, 3, 4, 4, 5, 5, 6, 6, 0, 0, 2, 0, 3, 0, 4]
 
@@ -103,6 +108,57 @@ def places_met(net):
                     met.add(there)
                     waiting.append(there)
     return met
+
+
+def exits_by_the_words(n, net):
+    """Of each place, exit by exit: the place it leads to, and the exit there by which one comes in."""
+    pairs = list(zip(net[::2], net[1::2]))
+    links = [[k for k, pair in enumerate(pairs) if place in pair] for place in range(n)]
+    ways = []
+    for place in range(n):
+        there = [sum(pairs[k]) - place for k in links[place]]
+        ways.append([(other, links[other].index(k)) for other, k in zip(there, links[place])])
+    return ways
+
+
+def namings(n, m, u, v, net, second):
+    """Every naming of the places of net by those of second as the document tells it, by going through all of them."""
+    if n != m:
+        return []
+    one = exits_by_the_words(n, net)
+    other = exits_by_the_words(m, second)
+    found = []
+    for names in itertools.permutations(range(n)):
+        named = [[(names[place], into) for place, into in ways] for ways in one]
+        if names[u] == v and all(named[place] == other[names[place]] for place in range(n)):
+            found.append(list(names))
+    return found
+
+
+def renamed(net, names):
+    return [names[place] for place in net]
+
+
+def different_nets(n):
+    """Nets of n places with links in whatever order: one of each sort that is the same from place 0 on."""
+    found = {}
+    pairs = list(itertools.combinations(range(n), 2))
+    for count in range(len(pairs) + 1):
+        for chosen in itertools.permutations(pairs, count):
+            net = [place for pair in chosen for place in pair]
+            if len(places_met(net)) == n:
+                found.setdefault(named_as_met(exits_by_the_words(n, net)), net)
+    return list(found.values())
+
+
+def named_as_met(ways):
+    """The exits of all places, these named from place 0 on in the order in which one meets them."""
+    order = [0]
+    for place in order:
+        for there, into in ways[place]:
+            if there not in order:
+                order.append(there)
+    return tuple(tuple((order.index(there), into) for there, into in ways[place]) for place in order)
 
 
 def lists_of_links(n):

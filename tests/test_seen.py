@@ -4,8 +4,8 @@ import itertools
 import unittest
 
 from tests.helpers import (
-    GREATEST, PATH_OF_THREE, RING_OF_SIX, RING_OF_SIX_ALL_ALIKE, RING_OF_THREE, STAR, TEN_LINKS, HoldsForEachCall,
-    RefusesAWalk, lists_of_links, places_met, seen_by_the_words,
+    FIVE_ALL_LINKED, GREATEST, PATH_OF_THREE, RING_OF_SIX, RING_OF_SIX_ALL_ALIKE, RING_OF_THREE, STAR, TEN_LINKS,
+    HoldsForEachCall, RefusesAWalk, lists_of_links, places_met, seen_by_the_words,
 )
 from withpebble.nets import seen
 
@@ -162,7 +162,7 @@ class Refusals(RefusesAWalk, unittest.TestCase):
 
     def test_ten_links_are_not_refused(self):
         self.assertEqual(seen(7, 0, TEN_LINKS, []), [2, 5, 2])
-        self.assertEqual(seen(5, 0, [0, 1, 0, 2, 0, 3, 0, 4, 1, 2, 1, 3, 1, 4, 2, 3, 2, 4, 3, 4], []), [2, 4, 2])
+        self.assertEqual(seen(5, 0, FIVE_ALL_LINKED, []), [2, 4, 2])
 
     def test_a_long_path_hangs_together_in_whatever_order(self):
         forth = [0, 1, 1, 2, 2, 3, 3, 4, 4, 5, 5, 6]

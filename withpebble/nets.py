@@ -1,11 +1,14 @@
-"""Nets of places, what is seen on them by a word, with a pebble, and where one is behind it."""
+"""Nets of places: what is seen on them by a word, with a pebble, where one is behind it, and which word tells apart."""
 
 NOT_A_NET = -22
 NO_PLACE = -2
 WORD_TOO_LONG = -22
+TOO_MANY_PLACES = -75
+NEVER_APART = -6
 NOT_REFUSED = 0
 
 MOST_PLACES = 7
+MOST_PLACES_TO_TELL_APART = 5
 MOST_LINKS = 10
 MOST_LETTERS = 30
 
@@ -42,6 +45,19 @@ def run(n, u, net, word):
     return [last[0], last[1]]
 
 
+def apart(n, m, u, v, net, second):
+    """How many letters the shortest word has that tells u and v apart, with a pebble; then it. Or a refusal alone."""
+    refused = refusal_of_two(n, m, u, v, net, second)
+    if refused != NOT_REFUSED:
+        return [refused]
+    exits = exits_of_places(n, links_of(net))
+    exits_of_second = exits_of_places(m, links_of(second))
+    word = shortest_word_apart(exits, exits_of_second, u, v)
+    if word is None:
+        return [NEVER_APART]
+    return [len(word)] + word
+
+
 def refusal(n, u, net, word):
     """The refusal that is due and told first, or NOT_REFUSED."""
     if not is_net(n, net):
@@ -50,6 +66,17 @@ def refusal(n, u, net, word):
         return NO_PLACE
     if len(word) > MOST_LETTERS:
         return WORD_TOO_LONG
+    return NOT_REFUSED
+
+
+def refusal_of_two(n, m, u, v, net, second):
+    """The refusal that is due and told first where two nets are to be told apart, or NOT_REFUSED."""
+    if not is_net(n, net) or not is_net(m, second):
+        return NOT_A_NET
+    if u >= n or v >= m:
+        return NO_PLACE
+    if n > MOST_PLACES_TO_TELL_APART or m > MOST_PLACES_TO_TELL_APART:
+        return TOO_MANY_PLACES
     return NOT_REFUSED
 
 
@@ -132,3 +159,38 @@ def step_by(exits, place, pebble, letter):
         way = exits[place][letter - FIRST_EXIT]
         return (way[0], pebble, way[1] + 1)
     return (place, pebble, DID_NOT_GO)
+
+
+def shortest_word_apart(exits, exits_of_second, u, v):
+    """The shortest word that tells u and v apart, of like ones the first by its letters; None if none does."""
+    if seen_at(exits, u, CARRIED) != seen_at(exits_of_second, v, CARRIED):
+        return []
+    letters = FIRST_EXIT + max([len(ways) for ways in exits + exits_of_second])
+    start = ((u, CARRIED), (v, CARRIED))
+    met = {start: True}
+    # Each round goes through longer words, within a round in their order: so the first word that tells apart is the one
+    # sought, and a pair that is met again need not be gone on from, for the word that met it first comes first.
+    reached = [(start, [])]
+    while reached:
+        further = []
+        for pair, word in reached:
+            for letter in range(letters):
+                after = pair_behind(exits, exits_of_second, pair, letter)
+                if after is None:
+                    return word + [letter]
+                if after not in met:
+                    met[after] = True
+                    further.append((after, word + [letter]))
+        reached = further
+    return None
+
+
+def pair_behind(exits, exits_of_second, pair, letter):
+    """Behind one letter in both nets: of each the place and where the pebble is; None if something else is seen."""
+    one = step_by(exits, pair[0][0], pair[0][1], letter)
+    other = step_by(exits_of_second, pair[1][0], pair[1][1], letter)
+    if one[2] != other[2]:
+        return None
+    if seen_at(exits, one[0], one[1]) != seen_at(exits_of_second, other[0], other[1]):
+        return None
+    return ((one[0], one[1]), (other[0], other[1]))
