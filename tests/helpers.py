@@ -19,6 +19,11 @@ RING_OF_FIVE = [0, 1, 1, 2, 2, 3, 3, 4, 4, 0]
 PATH_OF_FIVE = [0, 1, 1, 2, 2, 3, 3, 4]
 FIVE_ALL_LINKED = [0, 1, 0, 2, 0, 3, 0, 4, 1, 2, 1, 3, 1, 4, 2, 3, 2, 4, 3, 4]
 STAR = [0, 1, 0, 2, 3, 0]
+# Two nets of six places with nine links, told so that exit e of each place leads to an exit e: without a pebble all
+# places of both are alike, but the one net has rings of three and the other has none.
+PRISM = [0, 1, 3, 4, 2, 5, 1, 2, 4, 5, 0, 3, 2, 0, 5, 3, 1, 4]
+THREE_AND_THREE = [0, 3, 1, 4, 2, 5, 0, 4, 1, 5, 2, 3, 0, 5, 1, 3, 2, 4]
+SIX_WITH_TEN_LINKS = [0, 1, 1, 2, 2, 3, 3, 4, 4, 5, 5, 0, 0, 2, 0, 3, 1, 4, 3, 5]
 TEN_LINKS = [0, 1, 1, 2, 2, 3, 3, 4, 4, 5, 5, 6, 6, 0, 0, 2, 0, 3, 0, 4]
 
 NOT_NETS = {
@@ -246,6 +251,73 @@ class RefusesAWalk:
 
     def test_all_of_them(self):
         self.refused(-22, 2, 2, [], [0] * 31)
+
+
+class RefusesTwoNets:
+    """The refusals of a call with two nets; a TestCase beside it names the call."""
+
+    call = None
+
+    def refused(self, number, n, m, u, v, net, second):
+        self.assertEqual(type(self).call(n, m, u, v, net, second), [number], (n, m, u, v, net, second))
+
+    def test_what_is_not_a_net(self):
+        for why, n, net in not_nets():
+            with self.subTest(why, n=n, net=net):
+                self.refused(-22, n, 3, 0, 0, net, RING_OF_THREE)
+                self.refused(-22, 3, n, 0, 0, RING_OF_THREE, net)
+                self.refused(-22, n, n, 0, 0, net, net)
+
+    def test_each_net_is_held_against_its_own_number_of_places(self):
+        self.refused(-22, 3, 4, 0, 0, RING_OF_FOUR, RING_OF_THREE)
+        self.refused(-22, 4, 3, 0, 0, RING_OF_FOUR, RING_OF_FOUR)
+        self.refused(-22, 3, 4, 0, 0, RING_OF_THREE, RING_OF_THREE)
+
+    def test_no_place(self):
+        for none in (3, GREATEST):
+            self.refused(-2, 3, 3, none, 0, RING_OF_THREE, RING_OF_THREE)
+            self.refused(-2, 3, 3, 0, none, RING_OF_THREE, RING_OF_THREE)
+            self.refused(-2, 3, 3, none, none, RING_OF_THREE, RING_OF_THREE)
+        self.refused(-2, 1, 1, 1, 0, [], [])
+        self.refused(-2, 1, 1, 0, 1, [], [])
+
+    def test_a_place_of_the_one_that_is_none_of_the_other(self):
+        self.refused(-2, 4, 3, 0, 3, RING_OF_FOUR, RING_OF_THREE)
+        self.refused(-2, 3, 4, 3, 0, RING_OF_THREE, RING_OF_FOUR)
+
+    def test_not_a_net_and_no_place(self):
+        self.refused(-22, 3, 3, 3, 0, [0, 1], RING_OF_THREE)
+        self.refused(-22, 3, 3, 0, 3, [0, 1], RING_OF_THREE)
+        self.refused(-22, 3, 3, 3, 0, RING_OF_THREE, [0, 1])
+        self.refused(-22, 3, 3, 0, 3, RING_OF_THREE, [0, 1])
+        self.refused(-22, 0, 0, 0, 0, [], [])
+
+
+class RefusesManyPlaces(RefusesTwoNets):
+    """The refusals of a call with two nets of at most five places each."""
+
+    def test_more_than_five_places(self):
+        self.refused(-75, 3, 6, 0, 0, RING_OF_THREE, RING_OF_SIX)
+        self.refused(-75, 6, 3, 0, 0, RING_OF_SIX, RING_OF_THREE)
+        self.refused(-75, 6, 6, 0, 0, RING_OF_SIX, RING_OF_SIX)
+        self.refused(-75, 6, 6, 5, 5, RING_OF_SIX, RING_OF_SIX_ALL_ALIKE)
+        self.refused(-75, 7, 1, 6, 0, TEN_LINKS, [])
+        self.refused(-75, 1, 7, 0, 6, [], TEN_LINKS)
+
+    def test_no_place_and_more_than_five_places(self):
+        self.refused(-2, 6, 3, 6, 0, RING_OF_SIX, RING_OF_THREE)
+        self.refused(-2, 6, 3, 0, 3, RING_OF_SIX, RING_OF_THREE)
+        self.refused(-2, 3, 6, 3, 0, RING_OF_THREE, RING_OF_SIX)
+        self.refused(-2, 3, 6, 0, 6, RING_OF_THREE, RING_OF_SIX)
+
+    def test_not_a_net_and_more_than_five_places(self):
+        self.refused(-22, 7, 3, 0, 0, RING_OF_SIX, RING_OF_THREE)
+        self.refused(-22, 6, 3, 0, 0, RING_OF_SIX, [0, 1])
+        self.refused(-22, 3, 6, 0, 0, [0, 1], RING_OF_SIX)
+        self.refused(-22, 8, 8, 0, 0, [], [])
+
+    def test_all_of_them(self):
+        self.refused(-22, 6, 3, 6, 3, RING_OF_SIX, [0, 1])
 
 
 class HoldsForEachCall:

@@ -6,9 +6,9 @@ import sys
 import unittest
 
 from tests.helpers import (
-    FIVE_ALL_LINKED, GREATEST, PATH_OF_FIVE, PATH_OF_THREE, RING_OF_FIVE, RING_OF_FOUR, RING_OF_FOUR_ALL_ALIKE,
-    RING_OF_SIX, RING_OF_SIX_ALL_ALIKE, RING_OF_THREE, STAR, TEN_LINKS, HoldsForEachCall, different_nets,
-    lists_of_links, namings, not_nets, places_met, renamed,
+    FIVE_ALL_LINKED, PATH_OF_FIVE, PATH_OF_THREE, RING_OF_FIVE, RING_OF_FOUR, RING_OF_FOUR_ALL_ALIKE, RING_OF_SIX,
+    RING_OF_SIX_ALL_ALIKE, RING_OF_THREE, STAR, HoldsForEachCall, RefusesManyPlaces, different_nets, lists_of_links,
+    namings, places_met, renamed,
 )
 from withpebble.nets import apart, exits_of_places, links_of, seen, shortest_word_apart
 
@@ -231,69 +231,16 @@ class PutDown(Apart):
         self.assertIsNone(searched(6, 6, 0, 3, RING_OF_SIX, RING_OF_SIX))
 
 
-class Refusals(unittest.TestCase):
-    def refused(self, number, n, m, u, v, net, second):
-        self.assertEqual(apart(n, m, u, v, net, second), [number], (n, m, u, v, net, second))
+class Refusals(RefusesManyPlaces, unittest.TestCase):
+    call = apart
 
-    def test_what_is_not_a_net(self):
-        for why, n, net in not_nets():
-            with self.subTest(why, n=n, net=net):
-                self.refused(-22, n, 3, 0, 0, net, RING_OF_THREE)
-                self.refused(-22, 3, n, 0, 0, RING_OF_THREE, net)
-                self.refused(-22, n, n, 0, 0, net, net)
-
-    def test_each_net_is_held_against_its_own_number_of_places(self):
-        self.refused(-22, 3, 4, 0, 0, RING_OF_FOUR, RING_OF_THREE)
-        self.refused(-22, 4, 3, 0, 0, RING_OF_FOUR, RING_OF_FOUR)
-        self.refused(-22, 3, 4, 0, 0, RING_OF_THREE, RING_OF_THREE)
-
-    def test_no_place(self):
-        for none in (3, GREATEST):
-            self.refused(-2, 3, 3, none, 0, RING_OF_THREE, RING_OF_THREE)
-            self.refused(-2, 3, 3, 0, none, RING_OF_THREE, RING_OF_THREE)
-            self.refused(-2, 3, 3, none, none, RING_OF_THREE, RING_OF_THREE)
-        self.refused(-2, 1, 1, 1, 0, [], [])
-        self.refused(-2, 1, 1, 0, 1, [], [])
-
-    def test_a_place_of_the_one_that_is_none_of_the_other(self):
-        self.refused(-2, 4, 3, 0, 3, RING_OF_FOUR, RING_OF_THREE)
-        self.refused(-2, 3, 4, 3, 0, RING_OF_THREE, RING_OF_FOUR)
+    def test_the_last_place_of_each_is_there(self):
         self.assertEqual(apart(4, 3, 3, 2, RING_OF_FOUR, RING_OF_THREE), [2, 3, 3])
         self.assertEqual(apart(3, 4, 2, 3, RING_OF_THREE, RING_OF_FOUR), [2, 3, 3])
-
-    def test_more_than_five_places(self):
-        self.refused(-75, 3, 6, 0, 0, RING_OF_THREE, RING_OF_SIX)
-        self.refused(-75, 6, 3, 0, 0, RING_OF_SIX, RING_OF_THREE)
-        self.refused(-75, 6, 6, 0, 0, RING_OF_SIX, RING_OF_SIX)
-        self.refused(-75, 6, 6, 5, 5, RING_OF_SIX, RING_OF_SIX_ALL_ALIKE)
-        self.refused(-75, 7, 1, 6, 0, TEN_LINKS, [])
-        self.refused(-75, 1, 7, 0, 6, [], TEN_LINKS)
 
     def test_five_places_are_not_refused(self):
         self.assertEqual(apart(5, 5, 4, 4, RING_OF_FIVE, RING_OF_FIVE), [-6])
         self.assertEqual(apart(5, 1, 4, 0, RING_OF_FIVE, []), [0])
-
-    def test_not_a_net_and_no_place(self):
-        self.refused(-22, 3, 3, 3, 0, [0, 1], RING_OF_THREE)
-        self.refused(-22, 3, 3, 0, 3, [0, 1], RING_OF_THREE)
-        self.refused(-22, 3, 3, 3, 0, RING_OF_THREE, [0, 1])
-        self.refused(-22, 3, 3, 0, 3, RING_OF_THREE, [0, 1])
-        self.refused(-22, 0, 0, 0, 0, [], [])
-
-    def test_no_place_and_more_than_five_places(self):
-        self.refused(-2, 6, 3, 6, 0, RING_OF_SIX, RING_OF_THREE)
-        self.refused(-2, 6, 3, 0, 3, RING_OF_SIX, RING_OF_THREE)
-        self.refused(-2, 3, 6, 3, 0, RING_OF_THREE, RING_OF_SIX)
-        self.refused(-2, 3, 6, 0, 6, RING_OF_THREE, RING_OF_SIX)
-
-    def test_not_a_net_and_more_than_five_places(self):
-        self.refused(-22, 7, 3, 0, 0, RING_OF_SIX, RING_OF_THREE)
-        self.refused(-22, 6, 3, 0, 0, RING_OF_SIX, [0, 1])
-        self.refused(-22, 3, 6, 0, 0, [0, 1], RING_OF_SIX)
-        self.refused(-22, 8, 8, 0, 0, [], [])
-
-    def test_all_of_them(self):
-        self.refused(-22, 6, 3, 6, 3, RING_OF_SIX, [0, 1])
 
 
 class TheInterface(HoldsForEachCall, unittest.TestCase):

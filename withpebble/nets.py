@@ -1,10 +1,11 @@
-"""Nets of places: what is seen on them by a word, with a pebble, where one is behind it, and which word tells apart."""
+"""Nets of places: what is seen on them by a word, with a pebble, which word tells two apart, if they are the same."""
 
 NOT_A_NET = -22
 NO_PLACE = -2
 WORD_TOO_LONG = -22
 TOO_MANY_PLACES = -75
 NEVER_APART = -6
+NOT_THE_SAME = -33
 NOT_REFUSED = 0
 
 MOST_PLACES = 7
@@ -47,7 +48,7 @@ def run(n, u, net, word):
 
 def apart(n, m, u, v, net, second):
     """How many letters the shortest word has that tells u and v apart, with a pebble; then it. Or a refusal alone."""
-    refused = refusal_of_two(n, m, u, v, net, second)
+    refused = refusal_to_tell_apart(n, m, u, v, net, second)
     if refused != NOT_REFUSED:
         return [refused]
     exits = exits_of_places(n, links_of(net))
@@ -56,6 +57,19 @@ def apart(n, m, u, v, net, second):
     if word is None:
         return [NEVER_APART]
     return [len(word)] + word
+
+
+def same(n, m, u, v, net, second):
+    """n; then of each place of net the one of second that it is named by, u by v. Or a refusal alone."""
+    refused = refusal_of_two(n, m, u, v, net, second)
+    if refused != NOT_REFUSED:
+        return [refused]
+    exits = exits_of_places(n, links_of(net))
+    exits_of_second = exits_of_places(m, links_of(second))
+    names = naming(exits, exits_of_second, u, v)
+    if names is None:
+        return [NOT_THE_SAME]
+    return [n] + names
 
 
 def refusal(n, u, net, word):
@@ -70,11 +84,19 @@ def refusal(n, u, net, word):
 
 
 def refusal_of_two(n, m, u, v, net, second):
-    """The refusal that is due and told first where two nets are to be told apart, or NOT_REFUSED."""
+    """The refusal that is due and told first where there are two nets, or NOT_REFUSED."""
     if not is_net(n, net) or not is_net(m, second):
         return NOT_A_NET
     if u >= n or v >= m:
         return NO_PLACE
+    return NOT_REFUSED
+
+
+def refusal_to_tell_apart(n, m, u, v, net, second):
+    """The refusal that is due and told first where two nets are to be told apart, or NOT_REFUSED."""
+    refused = refusal_of_two(n, m, u, v, net, second)
+    if refused != NOT_REFUSED:
+        return refused
     if n > MOST_PLACES_TO_TELL_APART or m > MOST_PLACES_TO_TELL_APART:
         return TOO_MANY_PLACES
     return NOT_REFUSED
@@ -194,3 +216,34 @@ def pair_behind(exits, exits_of_second, pair, letter):
     if seen_at(exits, one[0], one[1]) != seen_at(exits_of_second, other[0], other[1]):
         return None
     return ((one[0], one[1]), (other[0], other[1]))
+
+
+def naming(exits, exits_of_second, u, v):
+    """Of each place of the first net the one of the second that it is named by, u by v; None if there's no naming."""
+    pairs = pairs_met(exits, exits_of_second, u, v)
+    if pairs is None:
+        return None
+    # All places hang together, so each is in some pair: if there are as many pairs as places, each is in one alone.
+    if len(pairs) != len(exits) or len(pairs) != len(exits_of_second):
+        return None
+    return [pair[1] for pair in pairs]
+
+
+def pairs_met(exits, exits_of_second, u, v):
+    """The places, one of each net, where one is behind like words, sorted; None if without a pebble they tell apart."""
+    start = (u, v)
+    met = {start: True}
+    waiting = [start]
+    while waiting:
+        pair = waiting.pop()
+        ways = exits[pair[0]]
+        ways_of_second = exits_of_second[pair[1]]
+        # These lists differ too where one place has more exits than the other.
+        if [way[1] for way in ways] != [way[1] for way in ways_of_second]:
+            return None
+        for way, way_of_second in zip(ways, ways_of_second):
+            after = (way[0], way_of_second[0])
+            if after not in met:
+                met[after] = True
+                waiting.append(after)
+    return sorted(met)
