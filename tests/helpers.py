@@ -15,6 +15,8 @@ RING_OF_SIX_ALL_ALIKE = [0, 1, 2, 3, 4, 5, 1, 2, 3, 4, 5, 0]
 PATH_OF_THREE = [0, 1, 1, 2]
 RING_OF_FOUR = [0, 1, 1, 2, 2, 3, 3, 0]
 RING_OF_FOUR_ALL_ALIKE = [0, 1, 2, 3, 1, 2, 3, 0]
+FOUR_ALL_LINKED_AND_ALIKE = [0, 1, 2, 3, 0, 2, 1, 3, 0, 3, 1, 2]
+PATH_OF_FOUR = [0, 1, 1, 2, 2, 3]
 RING_OF_FIVE = [0, 1, 1, 2, 2, 3, 3, 4, 4, 0]
 PATH_OF_FIVE = [0, 1, 1, 2, 2, 3, 3, 4]
 FIVE_ALL_LINKED = [0, 1, 0, 2, 0, 3, 0, 4, 1, 2, 1, 3, 1, 4, 2, 3, 2, 4, 3, 4]
@@ -210,6 +212,19 @@ def seen_by_the_words(u, net, word):
 def run_by_the_words(u, net, word):
     here, lies = walk_by_the_words(u, net, word)[1:]
     return [here, 0 if lies is None else lies + 1]
+
+
+def seen_without_a_pebble(ways, u, word):
+    """What the document tells of a word without a pebble; ways are the exits of all places."""
+    here = u
+    answer = [len(ways[here])]
+    for letter in word:
+        came = 0
+        if 1 <= letter <= len(ways[here]):
+            here, into = ways[here][letter - 1]
+            came = into + 1
+        answer += [came, len(ways[here])]
+    return answer
 
 
 class RefusesAWalk:

@@ -6,9 +6,9 @@ import sys
 import unittest
 
 from tests.helpers import (
-    FIVE_ALL_LINKED, PATH_OF_FIVE, PATH_OF_THREE, RING_OF_FIVE, RING_OF_FOUR, RING_OF_FOUR_ALL_ALIKE, RING_OF_SIX,
-    RING_OF_SIX_ALL_ALIKE, RING_OF_THREE, STAR, HoldsForEachCall, RefusesManyPlaces, different_nets, lists_of_links,
-    namings, places_met, renamed,
+    FIVE_ALL_LINKED, FOUR_ALL_LINKED_AND_ALIKE, PATH_OF_FIVE, PATH_OF_THREE, RING_OF_FIVE, RING_OF_FOUR,
+    RING_OF_FOUR_ALL_ALIKE, RING_OF_SIX, RING_OF_SIX_ALL_ALIKE, RING_OF_THREE, STAR, HoldsForEachCall,
+    RefusesManyPlaces, different_nets, lists_of_links, namings, places_met, renamed,
 )
 from withpebble.nets import apart, exits_of_places, links_of, seen, shortest_word_apart
 
@@ -137,10 +137,9 @@ class NeverToldApart(Apart):
                 self.never(4, 4, u, v, RING_OF_FOUR_ALL_ALIKE, RING_OF_FOUR_ALL_ALIKE)
 
     def test_four_places_all_linked_and_alike(self):
-        net = [0, 1, 2, 3, 0, 2, 1, 3, 0, 3, 1, 2]
         for u in range(4):
             for v in range(4):
-                self.never(4, 4, u, v, net, net)
+                self.never(4, 4, u, v, FOUR_ALL_LINKED_AND_ALIKE, FOUR_ALL_LINKED_AND_ALIKE)
 
     def test_two_places_that_no_naming_brings_together(self):
         for n, net in ((3, RING_OF_THREE), (4, RING_OF_FOUR), (5, RING_OF_FIVE), (4, STAR), (5, FIVE_ALL_LINKED)):

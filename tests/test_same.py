@@ -6,13 +6,12 @@ import sys
 import unittest
 
 from tests.helpers import (
-    FIVE_ALL_LINKED, PATH_OF_FIVE, PATH_OF_THREE, PRISM, RING_OF_FIVE, RING_OF_FOUR, RING_OF_FOUR_ALL_ALIKE,
-    RING_OF_SIX, RING_OF_SIX_ALL_ALIKE, RING_OF_THREE, SIX_WITH_TEN_LINKS, STAR, TEN_LINKS, THREE_AND_THREE,
-    HoldsForEachCall, RefusesTwoNets, different_nets, exits_by_the_words, lists_of_links, namings, places_met, renamed,
+    FIVE_ALL_LINKED, PATH_OF_FIVE, PATH_OF_FOUR, PATH_OF_THREE, PRISM, RING_OF_FIVE, RING_OF_FOUR,
+    RING_OF_FOUR_ALL_ALIKE, RING_OF_SIX, RING_OF_SIX_ALL_ALIKE, RING_OF_THREE, SIX_WITH_TEN_LINKS, STAR, TEN_LINKS,
+    THREE_AND_THREE, HoldsForEachCall, RefusesTwoNets, different_nets, exits_by_the_words, lists_of_links, namings,
+    places_met, renamed,
 )
 from withpebble.nets import apart, same
-
-PATH_OF_FOUR = [0, 1, 1, 2, 2, 3]
 
 NETS = [
     (1, []), (2, [0, 1]), (3, PATH_OF_THREE), (3, RING_OF_THREE), (4, STAR), (4, RING_OF_FOUR),

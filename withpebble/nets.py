@@ -72,6 +72,14 @@ def same(n, m, u, v, net, second):
     return [n] + names
 
 
+def both(n, m, u, v, net, second):
+    """1 or 0 each: if they're alike without a pebble, never told apart with one, the same. Or a refusal alone."""
+    refused = refusal_to_tell_apart(n, m, u, v, net, second)
+    if refused != NOT_REFUSED:
+        return [refused]
+    return three_answers(exits_of_places(n, links_of(net)), exits_of_places(m, links_of(second)), u, v)
+
+
 def refusal(n, u, net, word):
     """The refusal that is due and told first, or NOT_REFUSED."""
     if not is_net(n, net):
@@ -216,6 +224,14 @@ def pair_behind(exits, exits_of_second, pair, letter):
     if seen_at(exits, one[0], one[1]) != seen_at(exits_of_second, other[0], other[1]):
         return None
     return ((one[0], one[1]), (other[0], other[1]))
+
+
+def three_answers(exits, exits_of_second, u, v):
+    """1 or 0 each: if they're alike without a pebble, never told apart with one, the same, from u and v on."""
+    alike = pairs_met(exits, exits_of_second, u, v) is not None
+    never_apart = shortest_word_apart(exits, exits_of_second, u, v) is None
+    the_same = naming(exits, exits_of_second, u, v) is not None
+    return [1 if holds else 0 for holds in (alike, never_apart, the_same)]
 
 
 def naming(exits, exits_of_second, u, v):
